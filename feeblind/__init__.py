@@ -1,0 +1,1 @@
+"""Feeblind: a route finder whose short-cuts are judged without seeing a fee."""
