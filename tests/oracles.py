@@ -2,6 +2,7 @@
 
 from collections import Counter
 from fractions import Fraction
+from itertools import product
 
 from feeblind.measures import Price
 
@@ -62,6 +63,45 @@ def lowest(lines, top):
         assert len(least) == 1
         found.add(least[0])
     return tuple(sorted(found, key=lambda line: -line[1]))
+
+
+def walked(day, windows, ticks, t):
+    """The time at which one is through if one comes at t, going on time by time; None if the road never opens."""
+    for time in range(t, t + day):
+        if windows is None or any(first <= time % day < behind for first, behind in windows):
+            return time + ticks
+    return None
+
+
+def sides(measure, sentence, a, b, c):
+    """Both sides of a sentence of [7], written out as they stand there."""
+    best, then, stay = measure.best, measure.then, measure.stay
+    return {
+        "right_unit": lambda: (then(a, stay), a),
+        "left_unit": lambda: (then(stay, a), a),
+        "order": lambda: (best(a, b), best(b, a)),
+        "grouping": lambda: (best(best(a, b), c), best(a, best(b, c))),
+        "joining": lambda: (then(then(a, b), c), then(a, then(b, c))),
+        "ring": lambda: (best(stay, a), stay),
+        "left_sharing": lambda: (then(a, best(b, c)), best(then(a, b), then(a, c))),
+        "right_sharing": lambda: (then(best(a, b), c), best(then(a, c), then(b, c))),
+    }[sentence]()
+
+
+EIGHT = ["right_unit", "left_unit", "order", "grouping", "joining", "ring", "left_sharing", "right_sharing"]
+LETTERS = {"right_unit": 1, "left_unit": 1, "order": 2, "ring": 1}
+
+
+def first_fault(measure):
+    """The first sentence that a Told measure breaks with its first case, or None, by going through all names."""
+    for sentence in EIGHT:
+        many = LETTERS.get(sentence, 3)
+        for case in product(measure.names(), repeat=many):
+            filled = case + ("",) * (3 - many)
+            left, right = sides(measure, sentence, *filled)
+            if left != right:
+                return (sentence, *filled)
+    return None
 
 
 def bent(value):

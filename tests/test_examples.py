@@ -3,9 +3,31 @@
 from unittest import TestCase, main
 
 from feeblind.dials import Dial, lowest_lines
+from feeblind.hours import Hours, hours_of, read_hours
+from feeblind.sentences import judge_measure
+from feeblind.told import Told
 
 
 class Examples(TestCase):
+    def test_told(self):
+        best = [["o", "o", "o", "o"], ["o", "wl", "wl", "wl"], ["o", "wl", "ns", "ns"], ["o", "wl", "ns", "nl"]]
+        then = [["o", "wl", "ns", "nl"], ["wl", "wl", "nl", "nl"], ["ns", "nl", "ns", "nl"], ["nl", "nl", "nl", "nl"]]
+        measure = Told(["o", "wl", "ns", "nl"], best, then, "o")
+        refused = judge_measure(measure)
+        told = [refused.sentence, refused.one, refused.two, refused.three]
+        self.assertEqual(told, ["left_sharing", "ns", "wl", "ns"])
+
+    def test_hours(self):
+        hours = Hours(6)
+        ab = hours_of(6, [(1, 2)], 1)
+        ac = hours_of(6, None, 1)
+        cb = hours_of(6, [(2, 4)], 1)
+        cd = hours_of(6, None, 3)
+        one = hours.then(ab, ac)
+        value = hours.best(one, hours.best(hours.then(hours.then(ac, cb), ac), hours.then(ac, cd)))
+        wanted = [(2, 2, 8, 8, 8, 8), (3, 3, 3, 4, 9, 9), (3, 3, 5, 7, 8, 9), 11]
+        self.assertEqual([ab, cb, value, read_hours(value, 8)], wanted)
+
     def test_dial(self):
         dial = Dial("cost", "toll", 3)
         value = lowest_lines([(5, 0), (4, 1), (6, 0)], 3)

@@ -17,7 +17,22 @@ FUNCTIONS = {
     "names": {"is_name": "(value)", "is_number": "(value, least=0, most=None)"},
     "rows": {"thin_rows": "(rows)", "covers": "(one, other)", "thin_open": "(rows)"},
     "dials": {"lowest_lines": "(lines, top)"},
+    "hours": {"hours_of": "(day, windows, ticks)", "read_hours": "(value, t)", "latest_begin": "(value, end)"},
+    "sentences": {"keeps": "(measure, sentence, one, two, three)", "judge_measure": "(measure)"},
 }
+VERDICTS = {
+    "MeasureTaken": "(self)", "MeasureRefused": "(self, sentence, one, two, three)",
+    "PlanTaken": "(self, needed, spare)", "PlanRefused": "(self, source, target, way)",
+    "HubsTaken": "(self, size)", "HubsRefused": "(self, source, target, way)",
+    "BoundsTaken": "(self)", "BoundsRefused": "(self, source, target)",
+    "PaperTaken": "(self)", "PaperRefused": "(self, what, at)",
+    "ClosingTaken": "(self)", "ClosingRefused": "(self, what)",
+    "DialTaken": "(self)", "DialRefused": "(self, what, at)",
+}
+FEES = {"price": "(self, wish)", "prices": "(self)", "wheels": "(self)", "lets": "(self, wheel)"}
+FEES.update({"__eq__": "(self, other)", "__repr__": "(self)"})
+ROAD = "(self, name, tail, head, *, prices=None, width=1, ticks=1, mark=None, windows=None, wheels=None, doubtful=False)"
+RULE = "(self, source, target, *, prices=None, ticks=0, wheels=None)"
 CLASSES = {
     "measures": {
         "Measure": MEASURE,
@@ -29,6 +44,18 @@ CLASSES = {
         "Open": {**NAMED, "__init__": "(self, wish)"},
     },
     "dials": {"Dial": {**NAMED, "__init__": "(self, wish, slope, top)"}},
+    "hours": {"Hours": {**NAMED, "__init__": "(self, day)"}},
+    "joint": {
+        "Several": {**NAMED, "__init__": "(self, *measures)", "measures": "(self)"},
+        "First": {**NAMED, "__init__": "(self, wish, inner)"},
+    },
+    "told": {"Told": {**NAMED, "__init__": "(self, names, best, then, stay)", "names": "(self)", "tables": "(self)"}},
+    "verdicts": {name: {"__init__": made, "__eq__": "(self, other)"} for name, made in VERDICTS.items()},
+    "roads": {
+        "Road": {**FEES, "__init__": ROAD, "windows": "(self)", "open_at": "(self, t, day)"},
+        # None: a property.
+        "Rule": {**FEES, "__init__": RULE, "empty": None},
+    },
 }
 
 
