@@ -2,9 +2,13 @@
 
 
 def shown(value):
-    """How a message shows any value. Other kinds are left out: what they show may differ from run to run."""
-    if isinstance(value, (str, int)):
+    """How a message shows any value."""
+    if isinstance(value, str):
         return repr(value)
+    # Python does not write out numbers of thousands of digits.
+    if isinstance(value, int) and value.bit_length() < 64:
+        return repr(value)
+    # What other kinds show may differ from run to run.
     return "this value"
 
 

@@ -11,8 +11,8 @@ def is_row(value, length):
 
 
 def are_rows(value, length):
-    """Whether any value is a tuple, not empty, of such rows."""
-    return isinstance(value, tuple) and len(value) > 0 and all([is_row(row, length) for row in value])
+    """Whether any value is a tuple of such rows."""
+    return isinstance(value, tuple) and all([is_row(row, length) for row in value])
 
 
 def is_at_most(one, other):
@@ -35,7 +35,8 @@ def thin_rows(rows):
 
 def any_at_most(rows, row):
     """Whether one of the rows is at most a row at every position."""
-    for other in rows:
+    # Of rows with two positions the last one decides, so it is asked first.
+    for other in reversed(rows):
         if is_at_most(other, row):
             return True
     return False
@@ -84,7 +85,7 @@ class Trade(Measure):
             if wish in wishes[:at]:
                 raise TakenName(wish)
         self._wishes = list(wishes)
-        self.stay = (tuple([0 for _ in wishes]),)
+        self.stay = ((0,) * len(wishes),)
 
     def wishes(self):
         """The list of the wishes."""
@@ -121,10 +122,8 @@ class Trade(Measure):
 
 
 def is_lot(value):
-    """Whether any value is a tuple of names in the order of Python."""
-    if not isinstance(value, tuple) or not all([is_name(item) for item in value]):
-        return False
-    return value == tuple(sorted(value))
+    """Whether any value is a tuple of names, in any order."""
+    return isinstance(value, tuple) and all([is_name(item) for item in value])
 
 
 def is_open_row(value):
@@ -156,10 +155,11 @@ class Open(Measure):
         return thin_open([(price + more, lot + others) for price, lot in one for more, others in other])
 
     def is_value(self, value):
-        """Whether any value is a tuple of rows, thinned and ascending."""
-        if not isinstance(value, tuple) or len(value) == 0:
+        """Whether any value is a tuple of rows, thinned and ascending, with their lots in order."""
+        if not isinstance(value, tuple) or not all([is_open_row(row) for row in value]):
             return False
-        return all([is_open_row(row) for row in value]) and value == thin_open(value)
+        # Nothing is left of the empty tuple, and lots that are not in order are put in order.
+        return value == thin_open(value)
 
     def no_worse(self, one, other):
         """Whether one is no worse than the other, of values or None."""

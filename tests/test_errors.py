@@ -102,6 +102,13 @@ class Caught(TestCase):
                 values = [value] * len(names)
                 self.assertEqual(str(made(*values)), str(made(*values)))
 
+    def test_numbers_of_thousands_of_digits(self):
+        for made, _, names in each():
+            for value in (10 ** 5000, -10 ** 5000):
+                error = made(*[value] * len(names))
+                self.assertIs(type(str(error)), str)
+                self.assertTrue(all(getattr(error, name) is value for name in names))
+
 
 if __name__ == "__main__":
     main()
