@@ -246,6 +246,74 @@ def in_names(tree):
     return found
 
 
+def in_families(trees):
+    """L5, L18, L23: no name is a method and an attribute; a class with a len is true; generators have their own names."""
+    found = []
+    defined = [(name, node) for name, tree in trees.items() for node in ast.walk(tree) if isinstance(node, ast.FunctionDef)]
+    stored = {node.attr for tree in trees.values() for node in ast.walk(tree)
+              if isinstance(node, ast.Attribute) and isinstance(node.ctx, ast.Store)}
+    yielding = {node.name for _, node in defined
+                if any(isinstance(part, (ast.Yield, ast.YieldFrom)) for part in ast.walk(node))}
+    names = [node.name for _, node in defined]
+    for name, node in defined:
+        if node.name in yielding and (node.decorator_list or names.count(node.name) > 1):
+            found.append((name, "L23", node.lineno))
+    for name, tree in trees.items():
+        for owner in [node for node in ast.walk(tree) if isinstance(node, ast.ClassDef)]:
+            methods = {part.name: part for part in owner.body if isinstance(part, ast.FunctionDef)}
+            found.extend((name, "L18", part.lineno) for part in methods.values() if part.name in stored)
+            if "__len__" in methods and "__bool__" not in methods:
+                found.append((name, "truth", owner.lineno))
+    return found + generator_calls(trees, yielding)
+
+
+def generator_calls(trees, yielding):
+    """L23: a generator is called only where it is iterated at once, with names, attributes and literals."""
+    found = []
+    for name, tree in trees.items():
+        parents = {child: node for node in ast.walk(tree) for child in ast.iter_child_nodes(node)}
+        for node in ast.walk(tree):
+            if not isinstance(node, ast.Name) or node.id not in yielding:
+                continue
+            call = parents[node]
+            if not isinstance(call, ast.Call) or call.func is not node:
+                found.append((name, "L23", node.lineno))
+                continue
+            parent = parents[call]
+            looped = isinstance(parent, (ast.For, ast.comprehension)) and parent.iter is call
+            if not looped and called(parent) not in ("list", "tuple"):
+                found.append((name, "L23", node.lineno))
+            if not all(isinstance(part, (ast.Name, ast.Attribute, ast.Constant)) for part in call.args) or call.keywords:
+                found.append((name, "L23", node.lineno))
+    return found
+
+
+def changed_names(node):
+    """The names and attributes, written out, of which a statement or call in a loop changes items."""
+    for part in ast.walk(node):
+        if isinstance(part, ast.Call) and isinstance(part.func, ast.Attribute):
+            if part.func.attr in ("append", "pop", "extend", "insert", "remove", "clear", "update", "setdefault", "add", "discard"):
+                yield ast.unparse(part.func.value)
+        if isinstance(part, ast.Call) and called(part) in ("heappush", "heappop"):
+            yield ast.unparse(part.args[0])
+        if isinstance(part, ast.Subscript) and isinstance(part.ctx, (ast.Store, ast.Del)):
+            yield ast.unparse(part.value)
+        if isinstance(part, ast.Name) and isinstance(part.ctx, ast.Store):
+            yield part.id
+
+
+def in_loops(tree):
+    """L23: what a loop goes over is not changed in it."""
+    found = []
+    for node in ast.walk(tree):
+        if isinstance(node, ast.For):
+            heads = {ast.unparse(part) for part in ast.walk(node.iter) if isinstance(part, (ast.Name, ast.Attribute, ast.Subscript))}
+            changed = {name for step in node.body + [node.target] for name in changed_names(step)}
+            if heads & changed:
+                found.append(("L23", node.lineno))
+    return found
+
+
 def in_own_attributes(tree):
     """L26: names of methods and attributes that values of Python have, too."""
     found = []
@@ -413,6 +481,6 @@ def faults(files):
         rows = in_text(files[name]) + in_tokens(files[name], tree) + at_module_level(tree)
         rows += in_imports(tree, definitions) + unused_imports(tree) + in_functions(tree) + in_classes(tree)
         rows += in_names(tree) + in_own_attributes(tree) + in_statements(tree) + in_calls(tree, own)
-        rows += in_iteration(tree, parents) + in_class_names(tree, parents, classes) + outside_functions(tree)
+        rows += in_loops(tree) + in_iteration(tree, parents) + in_class_names(tree, parents, classes) + outside_functions(tree)
         found.extend((name, rule, line) for rule, line in rows)
-    return found
+    return found + in_families(trees)

@@ -2,13 +2,35 @@
 
 from unittest import TestCase, main
 
+from feeblind.charts import Chart
 from feeblind.dials import Dial, lowest_lines
+from feeblind.errors import BadText
 from feeblind.hours import Hours, hours_of, read_hours
+from feeblind.measures import Price
+from feeblind.nets import begins_at, ends_at, net_of
+from feeblind.plain import plain_answer
 from feeblind.sentences import judge_measure
+from feeblind.shapes import shape_of
 from feeblind.told import Told
+
+TEXT = (
+    "road ab a b\nprice cost 3\nroad ac a c\nprice cost 1\ndoubtful\nroad bd b d\nprice cost 2\nroad cb c b\nprice cost 1\n"
+    "doubtful\nroad cd c d\nprice cost 5\nend\n"
+)
 
 
 class Examples(TestCase):
+    def test_chart(self):
+        chart = Chart.read(TEXT)
+        self.assertEqual(shape_of(chart).turns(), [("ab", "bd"), ("ac", "cb"), ("ac", "cd"), ("cb", "bd")])
+        net = net_of(chart, Price("cost"))
+        self.assertEqual(plain_answer(net, begins_at(chart, net, "a"), ends_at(chart, "d")), 4)
+
+    def test_bad_text(self):
+        with self.assertRaises(BadText) as caught:
+            Chart.read("road ab a b\nprice cost 0\nend\n")
+        self.assertEqual(caught.exception.line, 1)
+
     def test_told(self):
         best = [["o", "o", "o", "o"], ["o", "wl", "wl", "wl"], ["o", "wl", "ns", "ns"], ["o", "wl", "ns", "nl"]]
         then = [["o", "wl", "ns", "nl"], ["wl", "wl", "nl", "nl"], ["ns", "nl", "ns", "nl"], ["nl", "nl", "nl", "nl"]]

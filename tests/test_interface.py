@@ -2,7 +2,7 @@
 
 import ast
 from importlib import import_module
-from inspect import signature
+from inspect import isgeneratorfunction, signature
 from pathlib import Path
 from unittest import TestCase, main
 
@@ -19,7 +19,19 @@ FUNCTIONS = {
     "dials": {"lowest_lines": "(lines, top)"},
     "hours": {"hours_of": "(day, windows, ticks)", "read_hours": "(value, t)", "latest_begin": "(value, end)"},
     "sentences": {"keeps": "(measure, sentence, one, two, three)", "judge_measure": "(measure)"},
+    "edits": {"check_edits": "(edits)", "edited": "(chart, edit)", "opposite": "(chart, edit)"},
+    "shapes": {"shape_of": "(chart)", "cut_rings": "(way)", "simple_ways": "(shape, source, target)"},
+    "nets": {
+        "road_value": "(road, measure)", "arc_value": "(rule, road, measure)", "net_of": "(chart, measure, *, wheel='car')",
+        "begins_at": "(chart, net, place)", "ends_at": "(chart, place)",
+    },
+    "plain": {
+        "worth": "(net, way)", "worth_from": "(net, begin, way)", "plain_between": "(net, source, target)",
+        "plain_answer": "(net, begins, ends)", "answering": "(net, begins, ends)", "rounds": "(net, begins)",
+        "next_round": "(net, marks)",
+    },
 }
+GENERATORS = {"shapes": ["simple_ways"], "plain": ["rounds"]}
 VERDICTS = {
     "MeasureTaken": "(self)", "MeasureRefused": "(self, sentence, one, two, three)",
     "PlanTaken": "(self, needed, spare)", "PlanRefused": "(self, source, target, way)",
@@ -33,6 +45,13 @@ FEES = {"price": "(self, wish)", "prices": "(self)", "wheels": "(self)", "lets":
 FEES.update({"__eq__": "(self, other)", "__repr__": "(self)"})
 ROAD = "(self, name, tail, head, *, prices=None, width=1, ticks=1, mark=None, windows=None, wheels=None, doubtful=False)"
 RULE = "(self, source, target, *, prices=None, ticks=0, wheels=None)"
+# Equal, shown, and true also with a len of 0.
+BAG = {"__eq__": "(self, other)", "__repr__": "(self)", "__len__": "(self)", "__bool__": "(self)"}
+CHART = {
+    **BAG, "__init__": "(self, roads=(), rules=())", "roads": "(self)", "names": "(self)", "road_named": "(self, name)",
+    "places": "(self)", "turns": "(self)", "rule": "(self, source, target)", "rules": "(self)", "leaving": "(self, place)",
+    "arriving": "(self, place)", "text": "(self)", "read": "(text)", "__contains__": "(self, name)", "__iter__": "(self)",
+}
 CLASSES = {
     "measures": {
         "Measure": MEASURE,
@@ -56,6 +75,20 @@ CLASSES = {
         # None: a property.
         "Rule": {**FEES, "__init__": RULE, "empty": None},
     },
+    "charts": {"Chart": CHART},
+    "shapes": {
+        "Shape": {
+            **BAG, "__init__": "(self, roads, turns)", "roads": "(self)", "turns": "(self)", "following": "(self, road)",
+            "leading": "(self, road)", "without": "(self, road)", "is_way": "(self, value)", "__contains__": "(self, name)",
+        },
+    },
+    "nets": {
+        "Net": {
+            "__init__": "(self, shape, measure, entries, arcs)", "entry": "(self, road)", "arc": "(self, source, target)",
+            "entries": "(self)", "arcs": "(self)", "with_arcs": "(self, arcs)", "closed": "(self, roads)",
+            "__eq__": "(self, other)", "__repr__": "(self)",
+        },
+    },
 }
 
 
@@ -71,6 +104,17 @@ class Interface(TestCase):
             for name, told in functions.items():
                 self.assertIn(name, defined, module)
                 self.assertEqual(str(signature(getattr(import_module("feeblind." + module), name))), told, name)
+
+    def test_generators(self):
+        for module, names in GENERATORS.items():
+            for name in names:
+                self.assertTrue(isgeneratorfunction(getattr(import_module("feeblind." + module), name)), name)
+
+    def test_static_methods(self):
+        for module, classes in CLASSES.items():
+            for name, methods in classes.items():
+                if "read" in methods:
+                    self.assertIsInstance(vars(getattr(import_module("feeblind." + module), name))["read"], staticmethod)
 
     def test_classes(self):
         for module, classes in CLASSES.items():

@@ -13,8 +13,8 @@ from tests.language import faults
 FOLDER = Path(feeblind.__file__).parent
 # The order of the document, in which each module needs only those above it.
 ORDER = (
-    "errors names measures rows dials hours joint told verdicts sentences roads charts edits shapes nets plain plans judging "
-    "ladder papers keeping hubs cells yards bounds hanging closings opentables settings dialpapers clocks house trials"
+    "errors names measures rows dials hours joint told verdicts sentences roads texts blocks charts edits shapes nets plain "
+    "plans judging ladder papers keeping hubs cells yards bounds hanging closings opentables settings dialpapers clocks house trials"
 ).split()
 
 BAD = [
@@ -91,6 +91,16 @@ BAD = [
     ("L24", "def f(x):\n    y = set(x)\n    return y\n"),
     ("L24", "def f(x):\n    y = set(x)\n    return [z for z in y]\n"),
     ("L24", "def f(x):\n    return list({z for z in x})\n"),
+    ("L23", "def f(x):\n    for y in x:\n        x.append(y)\n"),
+    ("L23", "def f(x):\n    for y in g(x.pop()):\n        x.append(y)\n"),
+    ("L23", "def f(x):\n    for y, z in x.items():\n        x[y] = 1\n"),
+    ("L23", "def f(x):\n    yield x\ndef g(x):\n    return f(x)\n"),
+    ("L23", "def f(x):\n    yield x\ndef g(x):\n    y = f(x)\n    return list(y)\n"),
+    ("L23", "def f(x):\n    yield x\ndef g(x):\n    return [y for y in f(x + 1)]\n"),
+    ("L23", "def f(x):\n    yield x\ndef g(x):\n    return f\n"),
+    ("L23", "def f(x):\n    yield x\nclass Box:\n    def f(self):\n        return 1\n"),
+    ("L18", "class Box:\n    def f(self):\n        self.f = 1\n"),
+    ("truth", "class Box:\n    def __len__(self):\n        return 1\n"),
 ]
 
 
