@@ -197,9 +197,11 @@ class ChartReader:
 
 def made_road(parts, fees):
     """The road of a block."""
-    return Road(*parts, **fees)
+    name, tail, head = parts
+    return Road(name, tail, head, **fees)
 
 
 def made_rule(parts, fees):
     """The rule of a block."""
-    return Rule(*parts, **fees)
+    source, target = parts
+    return Rule(source, target, **fees)

@@ -41,7 +41,7 @@ class Shape:
             if not is_pair(turn, self._following):
                 source, target = sides(turn)
                 raise NoTurn(source, target)
-        self._turns = {turn: True for turn in sorted(set(turns))}
+        self._turns = {turn: True for turn in sorted(turns)}
         self._leading = {road: [] for road in self._following}
         for source, target in self._turns:
             self._following[source].append(target)

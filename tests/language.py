@@ -219,6 +219,11 @@ def bound_names(tree):
             yield node.name, node.lineno
 
 
+def is_builtin(name):
+    """Whether Python itself gives a name a meaning; doctest leaves a value of its own under the name _."""
+    return name != "_" and hasattr(builtins, name)
+
+
 def in_names(tree):
     """L8, L12, L15, L17: names that are bound, and builtins that are used."""
     found = []
@@ -226,7 +231,7 @@ def in_names(tree):
     classes = [node for node in ast.walk(tree) if isinstance(node, ast.ClassDef)]
     taken |= {node.name for node in classes}
     for name, line in list(bound_names(tree)) + [(node.name, node.lineno) for node in classes]:
-        if hasattr(builtins, name):
+        if is_builtin(name):
             found.append(("L15", line))
         if name in NOWHERE | NO_VARIABLES:
             found.append(("L17", line))
@@ -237,7 +242,7 @@ def in_names(tree):
         if isinstance(node, ast.Name) and isinstance(node.ctx, ast.Load):
             if node.id == "_":
                 found.append(("L12", node.lineno))
-            if hasattr(builtins, node.id) and node.id not in BUILTINS:
+            if is_builtin(node.id) and node.id not in BUILTINS:
                 found.append(("L8", node.lineno))
         if isinstance(node, ast.Attribute) and (node.attr in NOWHERE or node.attr in ("format", "format_map")):
             found.append(("L17", node.lineno))

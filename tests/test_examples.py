@@ -6,9 +6,13 @@ from feeblind.charts import Chart
 from feeblind.dials import Dial, lowest_lines
 from feeblind.errors import BadText
 from feeblind.hours import Hours, hours_of, read_hours
+from feeblind.judging import counter_case, judge_plan
+from feeblind.ladder import fill, plain_case, told_answer, told_case
 from feeblind.measures import Price
 from feeblind.nets import begins_at, ends_at, net_of
+from feeblind.papers import AnswerPaper, judge_answer
 from feeblind.plain import plain_answer
+from feeblind.plans import Plan, plan_of
 from feeblind.sentences import judge_measure
 from feeblind.shapes import shape_of
 from feeblind.told import Told
@@ -20,11 +24,28 @@ TEXT = (
 
 
 class Examples(TestCase):
-    def test_chart(self):
+    def test_plan(self):
         chart = Chart.read(TEXT)
-        self.assertEqual(shape_of(chart).turns(), [("ab", "bd"), ("ac", "cb"), ("ac", "cd"), ("cb", "bd")])
+        shape = shape_of(chart)
+        self.assertEqual(shape.turns(), [("ab", "bd"), ("ac", "cb"), ("ac", "cd"), ("cb", "bd")])
+        plan = plan_of(shape, ["cb", "bd", "ab", "ac", "cd"])
         net = net_of(chart, Price("cost"))
-        self.assertEqual(plain_answer(net, begins_at(chart, net, "a"), ends_at(chart, "d")), 4)
+        begins, ends = begins_at(chart, net, "a"), ends_at(chart, "d")
+        self.assertEqual(plain_answer(net, begins, ends), 4)
+        table = fill(net, plan)
+        less = Plan(plan.order(), shape.turns())
+        refused = judge_plan(shape, less)
+        told = [table, told_answer(net.measure, plan, table, begins, ends), refused.source, refused.target, refused.way]
+        wanted = {("ab", "bd"): 2, ("ac", "bd"): 3, ("ac", "cb"): 1, ("ac", "cd"): 5, ("cb", "bd"): 2}
+        self.assertEqual(told, [wanted, 4, "ac", "bd", ("ac", "cb", "bd")])
+
+    def test_paper(self):
+        net = net_of(Chart.read(TEXT), Price("cost"))
+        good = AnswerPaper({"ab": 3, "bd": 4, "ac": 1, "cb": 2, "cd": 6}, [("ac", "cb", "bd")], 4)
+        bad = AnswerPaper({"ab": 3, "bd": 5, "ac": 1, "cb": 2, "cd": 6}, [("ac", "cb", "bd")], 4)
+        refused = judge_answer(net, {"ab": 3, "ac": 1}, ["bd", "cd"], bad)
+        taken = judge_answer(net, {"ab": 3, "ac": 1}, ["bd", "cd"], good).taken
+        self.assertEqual([taken, refused.what, refused.at], [True, "turn", ("cb", "bd")])
 
     def test_bad_text(self):
         with self.assertRaises(BadText) as caught:
@@ -36,8 +57,9 @@ class Examples(TestCase):
         then = [["o", "wl", "ns", "nl"], ["wl", "wl", "nl", "nl"], ["ns", "nl", "ns", "nl"], ["nl", "nl", "nl", "nl"]]
         measure = Told(["o", "wl", "ns", "nl"], best, then, "o")
         refused = judge_measure(measure)
-        told = [refused.sentence, refused.one, refused.two, refused.three]
-        self.assertEqual(told, ["left_sharing", "ns", "wl", "ns"])
+        case = counter_case(measure, refused)
+        told = [refused.sentence, refused.one, refused.two, refused.three, told_case(case), plain_case(case)]
+        self.assertEqual(told, ["left_sharing", "ns", "wl", "ns", "nl", "ns"])
 
     def test_hours(self):
         hours = Hours(6)

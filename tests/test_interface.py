@@ -12,6 +12,8 @@ FOLDER = Path(feeblind.__file__).parent
 PAIR = "(self, one, other)"
 MEASURE = {"best": PAIR, "then": PAIR, "is_value": "(self, value)", "no_worse": PAIR, "__eq__": "(self, other)"}
 NAMED = {**MEASURE, "__repr__": "(self)"}
+FROM = "(measure, plan, table, begins)"
+TO = "(measure, plan, table, ends)"
 
 FUNCTIONS = {
     "names": {"is_name": "(value)", "is_number": "(value, least=0, most=None)"},
@@ -29,6 +31,22 @@ FUNCTIONS = {
         "worth": "(net, way)", "worth_from": "(net, begin, way)", "plain_between": "(net, source, target)",
         "plain_answer": "(net, begins, ends)", "answering": "(net, begins, ends)", "rounds": "(net, begins)",
         "next_round": "(net, marks)",
+    },
+    "plans": {
+        "check_order": "(shape, order)", "low_pairs": "(shape, order)", "plan_of": "(shape, order, *, spare=())",
+        "order_by_few": "(shape)", "fitted": "(plan, shape)",
+    },
+    "judging": {"judge_plan": "(shape, plan)", "net_of_way": "(shape, way)", "counter_case": "(measure, refused)"},
+    "ladder": {
+        "fill": "(net, plan)", "climb": FROM, "climb_back": TO, "fan": FROM, "fan_back": TO,
+        "meet": "(measure, plan, ups, backs)", "told_answer": "(measure, plan, table, begins, ends)",
+        "told_between": "(measure, plan, table, source, target)",
+        "told_many": "(measure, plan, table, questions, goals)", "told_case": "(case)", "plain_case": "(case)",
+    },
+    "papers": {"judge_answer": "(net, begins, ends, paper)", "solve": "(net, plan, begins, ends)"},
+    "hubs": {
+        "judge_hubs": "(shape, hubs)", "hubs_of": "(plan)", "thin": "(shape, hubs)",
+        "hubs_between": "(net, hubs, source, target)", "hubs_answer": "(net, hubs, begins, ends)",
     },
 }
 GENERATORS = {"shapes": ["simple_ways"], "plain": ["rounds"]}
@@ -89,6 +107,37 @@ CLASSES = {
             "__eq__": "(self, other)", "__repr__": "(self)",
         },
     },
+    "plans": {
+        "Plan": {
+            **BAG, "__init__": "(self, order, pairs)", "order": "(self)", "rank": "(self, road)", "pairs": "(self)",
+            "is_lower": "(self, one, other)", "without": "(self, road)", "text": "(self)", "read": "(text)",
+            "__contains__": "(self, pair)",
+        },
+    },
+    "judging": {
+        "Case": {"__init__": "(self, net, plan, begins, ends, source, target)", "begins": "(self)", "ends": "(self)"},
+    },
+    "papers": {
+        "Answer": {"__init__": "(self, value, ways, paper=None)", "ways": "(self)", "__eq__": "(self, other)"},
+        "AnswerPaper": {
+            "__init__": "(self, marks, ways, claim)", "marks": "(self)", "ways": "(self)", "__eq__": "(self, other)",
+        },
+    },
+    "keeping": {
+        "Kept": {
+            "__init__": "(self, net, plan)", "net_now": "(self)", "plan_now": "(self)", "table": "(self)",
+            "change": "(self, arcs)", "touched": None, "again": "(self)", "moved": "(self)", "told": "(self, begins, ends)",
+            "between": "(self, source, target)", "twin": "(self)", "__call__": "(self, source, target)",
+            "__len__": "(self)", "__bool__": "(self)", "__repr__": "(self)",
+        },
+    },
+    "hubs": {
+        "Hubs": {
+            "__init__": "(self, outward, inward)", "outward": "(self, road)", "inward": "(self, road)",
+            "shared": "(self, source, target)", "without": "(self, road, hub, side)", "__eq__": "(self, other)",
+            "__repr__": "(self)",
+        },
+    },
 }
 
 
@@ -129,7 +178,9 @@ class Interface(TestCase):
             for name, methods in classes.items():
                 made = getattr(import_module("feeblind." + module), name)
                 for method, told in methods.items():
-                    if told is not None:
+                    if told is None:
+                        self.assertIsInstance(vars(made)[method], property)
+                    else:
                         self.assertEqual(str(signature(getattr(made, method))), told, (name, method))
 
 
