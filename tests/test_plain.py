@@ -7,6 +7,7 @@ from feeblind.charts import Chart
 from feeblind.measures import Price, Width
 from feeblind.nets import Net, begins_at, ends_at, net_of
 from feeblind.plain import answering, next_round, plain_answer, plain_between, rounds, worth, worth_from
+from feeblind.roads import Road
 from feeblind.rows import Open, Trade
 from feeblind.sentences import judge_measure
 from feeblind.shapes import Shape, cut_rings, shape_of
@@ -94,6 +95,18 @@ class Questions(TestCase):
         self.assertEqual(plain_answer(closed, begins_at(chart, closed, "a"), ends), 5)
         closed = net.closed(["cb"])
         self.assertEqual(plain_answer(closed, begins_at(chart, closed, "a"), ends), 5)
+
+    def test_from_a_place_to_itself(self):
+        roads = [Road("ab", "a", "b", prices={"cost": 2}), Road("ba", "b", "a", prices={"cost": 3})]
+        chart = Chart(roads)
+        net = net_of(chart, PRICE)
+        self.assertEqual(plain_answer(net, begins_at(chart, net, "a"), ends_at(chart, "a")), 5)
+        chart = Chart(roads + [Road("aa", "a", "a", prices={"cost": 4})])
+        net = net_of(chart, PRICE)
+        begins, ends = begins_at(chart, net, "a"), ends_at(chart, "a")
+        self.assertEqual([begins, ends], [{"aa": 4, "ab": 2}, ["aa", "ba"]])
+        wanted = [("aa",), ("aa", "ab", "ba"), ("ab", "ba"), ("ab", "ba", "aa")]
+        self.assertEqual([answering(net, begins, ends), plain_answer(net, begins, ends)], [wanted, 4])
 
     def test_what_is_passed_and_told_may_be_changed(self):
         begins, ends = {"b": 2, "a": 1}, ["c", "a"]
