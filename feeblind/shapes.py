@@ -117,18 +117,24 @@ def traced(came, road):
     return tuple(way[::-1])
 
 
+def stepped(shape, present, came, allowed):
+    """The roads that are newly reached from some roads by one turn into allowed ones; came keeps from which road."""
+    reached = []
+    for road in present:
+        for step in shape.following(road):
+            if step not in came and step in allowed:
+                came[step] = road
+                reached.append(step)
+    return reached
+
+
 def way_by(shape, source, target, inner):
     """A shortest way from source to target that goes by the roads of a dict, or None; so it is simple."""
+    allowed = {road: True for road in list(inner) + [target]}
     came = {source: None}
     present = [source]
     while present and target not in came:
-        steps = []
-        for road in present:
-            for step in shape.following(road):
-                if step not in came and (step in inner or step == target):
-                    came[step] = road
-                    steps.append(step)
-        present = steps
+        present = stepped(shape, present, came, allowed)
     return traced(came, target) if target in came else None
 
 

@@ -303,20 +303,43 @@ def changed_names(node):
             yield ast.unparse(part.args[0])
         if isinstance(part, ast.Subscript) and isinstance(part.ctx, (ast.Store, ast.Del)):
             yield ast.unparse(part.value)
-        if isinstance(part, ast.Name) and isinstance(part.ctx, ast.Store):
-            yield part.id
+
+
+def bare_names(value):
+    """The names that a value may be, without a call: a name, or a choice between names."""
+    if isinstance(value, ast.IfExp):
+        return bare_names(value.body) | bare_names(value.orelse)
+    if isinstance(value, ast.BoolOp):
+        return set().union(*[bare_names(part) for part in value.values])
+    return {value.id} if isinstance(value, ast.Name) else set()
+
+
+def shared_names(owner):
+    """For each name of a function the names that it may share a list with, since one is assigned the other."""
+    groups = {}
+    for node in ast.walk(owner):
+        if isinstance(node, ast.Assign):
+            names = bare_names(node.value) | {target.id for target in node.targets if isinstance(target, ast.Name)}
+            if bare_names(node.value):
+                whole = names.union(*[groups.get(name, set()) for name in names])
+                groups.update({name: whole for name in whole})
+    return groups
 
 
 def in_loops(tree):
-    """L23: what a loop goes over is not changed in it."""
-    found = []
-    for node in ast.walk(tree):
-        if isinstance(node, ast.For):
-            heads = {ast.unparse(part) for part in ast.walk(node.iter) if isinstance(part, (ast.Name, ast.Attribute, ast.Subscript))}
-            changed = {name for step in node.body + [node.target] for name in changed_names(step)}
-            if heads & changed:
-                found.append(("L23", node.lineno))
-    return found
+    """L5, L23: what a loop goes over is not changed in it, also not by another name of the function for it."""
+    found = set()
+    for owner in [tree] + [node for node in ast.walk(tree) if isinstance(node, ast.FunctionDef)]:
+        groups = shared_names(owner) if isinstance(owner, ast.FunctionDef) else {}
+        for node in [part for part in ast.walk(owner) if isinstance(part, ast.For)]:
+            parts = [part for part in ast.walk(node.iter) if isinstance(part, (ast.Name, ast.Attribute, ast.Subscript))]
+            heads = {ast.unparse(part) for part in parts}
+            stored = {part.id for step in node.body + [node.target] for part in ast.walk(step)
+                      if isinstance(part, ast.Name) and isinstance(part.ctx, ast.Store)}
+            changed = {name for step in node.body for name in changed_names(step)}
+            if heads & (stored | changed) or heads.union(*[groups.get(head, set()) for head in heads]) & changed:
+                found.add(("L23", node.lineno))
+    return sorted(found)
 
 
 def in_own_attributes(tree):

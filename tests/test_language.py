@@ -14,7 +14,7 @@ FOLDER = Path(feeblind.__file__).parent
 # The order of the document, in which each module needs only those above it.
 ORDER = (
     "errors names measures rows dials hours joint told verdicts sentences roads texts blocks charts edits shapes nets plain "
-    "plans judging ladder papers keeping hubs cells yards bounds hanging closings opentables settings dialpapers clocks house trials"
+    "plans judging ladder papers keeping hubs cells yards bounds hanging closings opentables settings dialpapers clocks states house trials"
 ).split()
 
 BAD = [
@@ -93,6 +93,8 @@ BAD = [
     ("L24", "def f(x):\n    return list({z for z in x})\n"),
     ("L23", "def f(x):\n    for y in x:\n        x.append(y)\n"),
     ("L23", "def f(x):\n    for y in g(x.pop()):\n        x.append(y)\n"),
+    ("L23", "def f(x):\n    y = x\n    while y:\n        z = []\n        for a in y:\n            z.append(a)\n        y = z\n"),
+    ("L23", "def f(x, z):\n    y = x if z else z\n    for a in x:\n        y.append(a)\n"),
     ("L23", "def f(x):\n    for y, z in x.items():\n        x[y] = 1\n"),
     ("L23", "def f(x):\n    yield x\ndef g(x):\n    return f(x)\n"),
     ("L23", "def f(x):\n    yield x\ndef g(x):\n    y = f(x)\n    return list(y)\n"),
