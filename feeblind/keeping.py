@@ -1,7 +1,9 @@
 """Kept plans: filled plans that are kept up when arcs change."""
 
 from feeblind.ladder import fill, sources_by_rank, targets_by_rank, told_answer, told_between
-from feeblind.nets import not_none
+from feeblind.nets import Net, not_none
+from feeblind.plans import Plan
+from feeblind.shapes import Shape
 
 
 def joints_of(plan):
@@ -106,7 +108,14 @@ class Kept:
 
     def twin(self):
         """An independent kept plan in the same state."""
-        other = Kept(self._net, self._plan)
+        # What is filled already is not filled anew.
+        other = Kept(Net(Shape([], []), self._net.measure, {}, {}), Plan([], []))
+        other._table = {pair: self._table[pair] for pair in self._table}
+        other._net = self._net
+        other._plan = self._plan
+        other._joints = self._joints
+        other._pairs = self._pairs
+        other._many = self._many
         other._again = list(self._again)
         other._moved = list(self._moved)
         return other

@@ -134,17 +134,18 @@ class Spreading:
     def grow(self, source, target):
         """Goes on from the ways to a road by a turn; whether this brings anything better."""
         measure, arc = self.net.measure, self.net.arc(source, target)
+        rows, best = list(self.found.get(target, [])), self.bests.get(target, None)
         grown = False
-        begun = list(self.found[source])
-        for way, value in begun:
+        for way, value in self.found[source]:
             longer = measure.then(value, arc)
-            old = self.bests.get(target, None)
             # A way that comes back to a road is no better than it was there, so no ring is kept.
-            if measure.best(old, longer) != old:
-                rows = self.found.get(target, []) + [(way + (target,), longer)]
-                self.found[target] = needed_rows(measure, rows)
-                self.bests[target] = measure.best(old, longer)
+            if measure.best(best, longer) != best:
+                rows.append((way + (target,), longer))
+                best = measure.best(best, longer)
                 grown = True
+        if grown:
+            self.found[target] = needed_rows(measure, rows)
+            self.bests[target] = best
         return grown
 
 

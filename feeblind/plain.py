@@ -32,13 +32,43 @@ def best_of(measure, values):
     return found
 
 
+def steps_by(arcs):
+    """For each road from which an arc of a dict leads the list of the pairs of a target and the arc."""
+    steps = {}
+    for source, target in arcs:
+        steps.setdefault(source, []).append((target, arcs[(source, target)]))
+    return steps
+
+
+def spread_by(measure, steps, marks):
+    """For a taken measure the best of all ways from the marks to each road, by steps; without None, ascending."""
+    found = not_none(marks)
+    present = list(found)
+    while present:
+        changed = {}
+        for source in present:
+            for target, arc in steps.get(source, []):
+                old = found.get(target, None)
+                new = measure.best(old, measure.then(found[source], arc))
+                if new != old:
+                    found[target] = new
+                    changed[target] = True
+        # One goes on from these roads alone, since nothing else can bring anything better.
+        present = sorted(changed)
+    return not_none(found)
+
+
 def spread(net, marks):
     """The last round of a table, for a taken measure: the best of all ways from the marks to each road."""
-    while True:
-        behind = next_round(net, marks)
-        if behind == marks:
-            return marks
-        marks = behind
+    return spread_by(net.measure, steps_by(net.arcs()), marks)
+
+
+def spread_back(net, marks):
+    """For a net of prices the least price from each road to the marks, which are paid there."""
+    arcs = net.arcs()
+    # Sums of prices do not ask for the order, so the turns are gone the other way round.
+    turned = {(target, source): arcs[(source, target)] for source, target in arcs}
+    return spread_by(net.measure, steps_by(turned), marks)
 
 
 def plain_between(net, source, target):

@@ -147,6 +147,23 @@ def told_by_hand(measure, plan, table, begins, ends):
     return told
 
 
+def worked_by_hand(old, new, plan):
+    """The pairs that are worked again and those that moved, in the words of [27], from both nets alone."""
+    before, after = filled_by_hand(old, plan), filled_by_hand(new, plan)
+    pairs, order = plan.pairs(), plan.order()
+    moved = [pair for pair in pairs if before.get(pair) != after.get(pair)]
+    again = []
+    for u, v in pairs:
+        turned = (u, v) in old.shape.turns() and old.arc(u, v) != new.arc(u, v)
+        leaning = False
+        for w in order[:min(order.index(u), order.index(v))]:
+            if (u, w) in pairs and (w, v) in pairs and ((u, w) in moved or (w, v) in moved):
+                leaning = True
+        if turned or leaning:
+            again.append((u, v))
+    return sorted(again), sorted(moved)
+
+
 def some_order(random, shape):
     """The roads of a shape in some order."""
     return random.sample(shape.roads(), len(shape))

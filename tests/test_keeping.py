@@ -14,30 +14,13 @@ from feeblind.plans import Plan, order_by_few, plan_of
 from feeblind.sentences import judge_measure
 from feeblind.shapes import Shape
 from tests.charting import EXAMPLE, Ways, bad_told, plain_by_hand, small_samples, some_charts, some_net, some_question, some_shape
-from tests.planning import any_plan, filled_by_hand, full_plan, told_by_hand
+from tests.planning import any_plan, filled_by_hand, full_plan, told_by_hand, worked_by_hand
 
 PRICE = Price("cost")
 NET = net_of(Chart.read(EXAMPLE), PRICE)
 ORDER = ["cb", "bd", "ab", "ac", "cd"]
 PLAN = plan_of(NET.shape, ORDER)
 TABLE = {("ab", "bd"): 2, ("ac", "bd"): 3, ("ac", "cb"): 1, ("ac", "cd"): 5, ("cb", "bd"): 2}
-
-
-def worked_by_hand(old, new, plan):
-    """The pairs that are worked again and those that moved, in the words of [27], from both nets alone."""
-    before, after = filled_by_hand(old, plan), filled_by_hand(new, plan)
-    pairs, order = plan.pairs(), plan.order()
-    moved = [pair for pair in pairs if before.get(pair) != after.get(pair)]
-    again = []
-    for u, v in pairs:
-        turned = (u, v) in old.shape.turns() and old.arc(u, v) != new.arc(u, v)
-        leaning = False
-        for w in order[:min(order.index(u), order.index(v))]:
-            if (u, w) in pairs and (w, v) in pairs and ((u, w) in moved or (w, v) in moved):
-                leaning = True
-        if turned or leaning:
-            again.append((u, v))
-    return sorted(again), sorted(moved)
 
 
 class Plain(TestCase):
