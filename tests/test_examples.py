@@ -1,4 +1,4 @@
-"""The section "Examples" of the document, as far as the modules go."""
+"""The section "Examples" of the document, whole."""
 
 from unittest import TestCase, main
 
@@ -6,6 +6,7 @@ from feeblind.charts import Chart
 from feeblind.dials import Dial, lowest_lines
 from feeblind.errors import BadText
 from feeblind.hours import Hours, hours_of, read_hours
+from feeblind.house import House
 from feeblind.judging import counter_case, judge_plan
 from feeblind.ladder import fill, plain_case, told_answer, told_case
 from feeblind.measures import Price
@@ -14,6 +15,7 @@ from feeblind.papers import AnswerPaper, judge_answer
 from feeblind.plain import plain_answer
 from feeblind.plans import Plan, plan_of
 from feeblind.sentences import judge_measure
+from feeblind.settings import joints, read_dial, stretches
 from feeblind.shapes import shape_of
 from feeblind.told import Told
 
@@ -38,6 +40,13 @@ class Examples(TestCase):
         told = [table, told_answer(net.measure, plan, table, begins, ends), refused.source, refused.target, refused.way]
         wanted = {("ab", "bd"): 2, ("ac", "bd"): 3, ("ac", "cb"): 1, ("ac", "cd"): 5, ("cb", "bd"): 2}
         self.assertEqual(told, [wanted, 4, "ac", "bd", ("ac", "cb", "bd")])
+
+    def test_house(self):
+        house = House(Chart.read(TEXT))
+        table = house.fees_table("a", "d", wish="cost")
+        readings = [table.reading(fees={"ac": 1}), table.reading(shut=["cb"])]
+        told = [table.rows(), *readings, table.point((5, ())), table.breaking(), table.limit("ac"), house("a", "d")]
+        self.assertEqual(told, [[(4, ("ac", "cb")), (5, ())], 5, 5, ["ac", "cb"], [("ac",), ("cb",)], 1, 4])
 
     def test_paper(self):
         net = net_of(Chart.read(TEXT), Price("cost"))
@@ -75,8 +84,10 @@ class Examples(TestCase):
     def test_dial(self):
         dial = Dial("cost", "toll", 3)
         value = lowest_lines([(5, 0), (4, 1), (6, 0)], 3)
-        self.assertEqual(value, ((4, 1), (5, 0)))
         self.assertIs(dial.is_value(value), True)
+        told = [value, joints(dial, value), read_dial(dial, value, (1, 2)), stretches(dial, value)]
+        wanted = [((4, 1), (5, 0)), [(1, 1)], 9, [((0, 1), (1, 1), (4, 1)), ((1, 1), (3, 1), (5, 0))]]
+        self.assertEqual(told, wanted)
 
 
 if __name__ == "__main__":

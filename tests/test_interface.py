@@ -48,6 +48,31 @@ FUNCTIONS = {
         "judge_hubs": "(shape, hubs)", "hubs_of": "(plan)", "thin": "(shape, hubs)",
         "hubs_between": "(net, hubs, source, target)", "hubs_answer": "(net, hubs, begins, ends)",
     },
+    "cells": {
+        "check_cells": "(shape, cells)", "entry_roads": "(shape, cells, cell)", "exit_roads": "(shape, cells, cell)",
+        "cell_table": "(net, cells, cell)", "cell_tables": "(net, cells)",
+        "cells_between": "(net, cells, tables, source, target)", "cells_answer": "(net, cells, tables, begins, ends)",
+    },
+    "bounds": {
+        "judge_bounds": "(net, ends, bounds)", "mend": "(net, ends, bounds)", "greatest_bounds": "(*tables)",
+        "landmark_bounds": "(net, landmarks, goal)", "led": "(net, begins, ends, bounds)",
+    },
+    "hanging": {
+        "through": "(net, begins, ends, road)", "slack": "(net, begins, ends, road)",
+        "needed_roads": "(net, begins, ends)", "detours": "(net, begins, ends, way)",
+    },
+    "closings": {
+        "judge_closing": "(net, begins, ends, paper)", "least_closings": "(net, begins, ends)",
+        "cuts": "(net, begins, ends, roads)",
+    },
+    "opentables": {"open_table": "(net, begins, ends)"},
+    "settings": {
+        "lowest": "(setting)", "read_dial": "(measure, value, setting)", "joints": "(measure, value)",
+        "stretches": "(measure, value)", "net_at": "(net, setting)", "begins_read": "(net, begins, setting)",
+    },
+    "dialpapers": {"judge_dial": "(net, begins, ends, paper)", "dial_paper": "(net, begins, ends)"},
+    "clocks": {"clock": "(net, begins, way, t)", "way_at": "(net, begins, ends, t)"},
+    "trials": {"held_text": "(house, edits, keep)", "text_behind": "(house, *edits)"},
 }
 GENERATORS = {"shapes": ["simple_ways"], "plain": ["rounds"]}
 VERDICTS = {
@@ -136,6 +161,52 @@ CLASSES = {
             "__init__": "(self, outward, inward)", "outward": "(self, road)", "inward": "(self, road)",
             "shared": "(self, source, target)", "without": "(self, road, hub, side)", "__eq__": "(self, other)",
             "__repr__": "(self)",
+        },
+    },
+    "cells": {
+        "Cells": {
+            **BAG, "__init__": "(self, levels)", "roads": "(self)", "cells": "(self)", "lot": "(self, cell)",
+            "cell_of": "(self, road, level)", "apart": "(self, source, target)",
+        },
+    },
+    "yards": {
+        "Yard": {
+            "__init__": "(self, net, cells, *, workers=3)", "net_now": "(self)", "waits": None, "stamp": "(self, cell)",
+            "is_fresh": "(self, cell)", "table": "(self, cell)", "change": "(self, arcs)",
+            "take": "(self, worker, cell=None)", "finish": "(self, worker)", "fall": "(self, worker)",
+            "job": "(self, worker)", "between": "(self, source, target)", "twin": "(self)", "__len__": "(self)",
+            "__bool__": "(self)", "__repr__": "(self)",
+        },
+    },
+    "closings": {"ClosingPaper": {"__init__": "(self, cut, ways)", "cut": "(self)", "ways": "(self)"}},
+    "opentables": {
+        "OpenTable": {
+            **BAG, "__init__": "(self, doubts, value)", "doubts": "(self)", "rows": "(self)",
+            "reading": "(self, *, fees=None, shut=())", "point": "(self, row)", "part": "(self, other)",
+            "breaking": "(self, *, fees=None)", "useless": "(self)", "limit": "(self, road, *, fees=None, shut=())",
+            "__iter__": "(self)",
+        },
+    },
+    "dialpapers": {
+        "Span": {
+            "__init__": "(self, low, high, way, low_marks, high_marks)", "marks_low": "(self)", "marks_high": "(self)",
+        },
+        "DialPaper": {"__init__": "(self, spans)", "spans": "(self)", "__len__": "(self)", "__bool__": "(self)"},
+    },
+    "house": {
+        "House": {
+            **BAG, "__init__": "(self, chart, *, order=None)", "chart_now": "(self)", "plan_now": "(self)",
+            "cells_now": "(self)", "version": None, "work": None, "do": "(self, *edits)", "undo": "(self)",
+            "redo": "(self)", "history": "(self)", "use": "(self, plan)", "use_cells": "(self, cells)",
+            "ask": "(self, start, goal, *, measure, wheel='car', by='plan', paper=False)",
+            "table": "(self, *, measure, wheel='car')", "fees_table": "(self, start, goal, *, wish, wheel='car')",
+            "tried": "(self, *edits, start, goal, measure, wheel='car')", "twin": "(self)",
+            "__call__": "(self, start, goal)",
+        },
+    },
+    "trials": {
+        "Trial": {
+            "__init__": "(self, house)", "keep": "(self)", "__enter__": "(self)", "__exit__": "(self, kind, value, trace)",
         },
     },
 }
