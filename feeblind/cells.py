@@ -77,9 +77,8 @@ class Cells:
 
     def lot(self, cell):
         """The ascending list of the roads of a cell."""
-        if not isinstance(cell, tuple) or len(cell) != 2 or not all([is_number(part) for part in cell]):
-            raise UnknownCell(cell)
-        if cell not in self._lots:
+        # For Python True equals 1, so being found is not enough.
+        if not isinstance(cell, tuple) or not all([is_number(part) for part in cell]) or cell not in self._lots:
             raise UnknownCell(cell)
         return list(self._lots[cell])
 

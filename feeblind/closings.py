@@ -119,7 +119,7 @@ def with_one_more(taken, came):
 
 def ways_taken(taken):
     """The ascending list of the ways that taken steps are made of."""
-    onward = {side: step for side, step in taken if side != START}
+    onward = {side: step for side, step in taken}
     found = []
     for side, first in taken:
         if side == START:

@@ -34,10 +34,11 @@ def hitting_lots(lots):
     for lot in lots:
         grown = {}
         for hit in found:
-            shared = [name for name in lot if name in hit]
-            # A lot that hits already stays; another one needs one name more.
-            for name in shared[:1] or lot:
-                grown[hit if shared else tuple(sorted(hit + (name,)))] = True
+            if any([name in hit for name in lot]):
+                grown[hit] = True
+            else:
+                for name in lot:
+                    grown[tuple(sorted(hit + (name,)))] = True
         found = least_lots(list(grown))
     return sorted(found)
 

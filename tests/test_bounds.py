@@ -114,6 +114,7 @@ class Greatest(TestCase):
         told = greatest_bounds({"b": 3, "a": 1, "d": None}, {"b": 2, "c": 5, "d": 7}, {"b": None})
         self.assertEqual(list(told.items()), [("a", 1), ("b", None), ("c", 5), ("d", None)])
         self.assertEqual(greatest_bounds({"a": 4}, {"a": 4}), {"a": 4})
+        self.assertEqual(greatest_bounds({"a": 0}, {}, {"b": 0}), {"a": 0, "b": 0})
 
     def test_of_taken_ones_it_is_taken(self):
         random = Random(154)
@@ -225,7 +226,9 @@ class Led(TestCase):
         for _ in range(300):
             net, ways, begins, ends = price_case(random)
             roads = net.shape.roads()
-            for bounds in ({}, mend(net, ends, some_bounds(random, roads)), mend(net, ends, {road: None for road in roads})):
+            mended = mend(net, ends, some_bounds(random, roads))
+            rows_above = {road: bound for road, bound in mended.items() if bound != 0}
+            for bounds in ({}, mended, rows_above, mend(net, ends, {road: None for road in roads})):
                 self.look(net, ways, begins, ends, bounds)
             seen.append(plain_by_hand(net, ways, begins, ends))
         self.assertGreater(min(seen.count(None), len(seen) - seen.count(None)), 30)

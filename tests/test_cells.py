@@ -225,6 +225,8 @@ class Checks(TestCase):
                 with self.assertRaises(BadCells) as caught:
                     call(Shape(roads, []))
                 self.assertEqual(caught.exception.road, road)
+        with self.assertRaises(BadCells):
+            cell_tables(Net(Shape(["a"], []), PRICE, {}, {}), Cells([[]]))
         self.assertIsNone(check_cells(shape=Shape(["a", "b", "y"], []), cells=cells))
         self.assertIsNone(check_cells(Shape([], []), Cells([[]])))
 

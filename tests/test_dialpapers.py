@@ -82,16 +82,18 @@ class Parts(TestCase):
         self.assertEqual([len(DialPaper([])), bool(DialPaper([])), DialPaper([]).spans()], [0, True, []])
 
     def test_what_is_passed_and_told_may_be_changed(self):
-        low, way, marks, spans = [0, [1]], ["s", {"k": [1]}], dict(AT_ZERO), [FIRST]
-        span, paper = Span(low, ONE, way, marks, marks), DialPaper(spans)
+        low, high, way, marks, spans = [0, [1]], [{}], ["s", {"k": [1]}], dict(AT_ZERO), [FIRST]
+        span, paper = Span(low, high, way, marks, marks), DialPaper(spans)
         low[1].append(2)
+        high[0]["k"] = 1
         way[1]["k"].append(2)
         marks.clear()
         spans.clear()
         span.marks_low().clear()
         span.marks_high().clear()
         paper.spans().clear()
-        self.assertEqual([span.low, span.way, span.marks_low(), span.marks_high()], [[0, [1]], ["s", {"k": [1]}], AT_ZERO, AT_ZERO])
+        self.assertEqual([span.low, span.high, span.way], [[0, [1]], [{}], ["s", {"k": [1]}]])
+        self.assertEqual([span.marks_low(), span.marks_high()], [AT_ZERO, AT_ZERO])
         self.assertEqual(paper.spans(), [FIRST])
 
 

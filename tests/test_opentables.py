@@ -94,7 +94,7 @@ class Reading(TestCase):
                 with self.assertRaises(UnknownName) as caught:
                     call()
                 self.assertIs(caught.exception.name, value)
-        for fees in ({"zz": 1, "a": 2}, {"a": None, "zz": None}, {"zz": -1, "zzz": 0}):
+        for fees in ({"zz": 1, "a": 2}, {"a": None, "zz": None}, {"zzz": -1, "zz": 0}):
             for call in (lambda: TABLE.reading(fees=fees, shut=[5]), lambda: TABLE.breaking(fees=fees), lambda: TABLE.limit("a", fees=fees, shut=["q"])):
                 with self.assertRaises(UnknownName) as caught:
                     call()
